@@ -1,0 +1,1 @@
+"""Roomweek: rooms booked by hours, week by week."""

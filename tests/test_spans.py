@@ -1,15 +1,8 @@
 import unittest
 
+from told import HUGE, WEEK, hours_of
+
 from roomweek.spans import has_hour, meet
-
-WEEK = 168
-HUGE = 10 ** 21 + 7
-
-
-def hours_of(span):
-    """The hours of a span, told one by one."""
-    start, stop, weeks = span
-    return {hour + WEEK * week for week in range(weeks) for hour in range(start, stop)}
 
 
 class HasHour(unittest.TestCase):
